@@ -1,0 +1,1 @@
+"""Coins that cost a coin on their way."""
