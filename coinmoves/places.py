@@ -92,10 +92,79 @@ def all_led_to(n, g, c):
     return found
 
 
+def with_one_more(lying, place):
+    """The coins with one more at the place."""
+    more = list(lying)
+    more[place] += 1
+    return tuple(more)
+
+
+def is_short(pairs, r, row, lying):
+    """Whether the coins lead to none with one at r, where row holds all such ways of one coin fewer."""
+    if lying[r] > 0:
+        return False
+    for pair in pairs:
+        if lying[pair[0]] >= 2 and after_move(lying, pair) not in row:
+            return False
+    return True
+
+
+def next_short_row(pairs, r, row):
+    """All ways of one coin more than in row that lead to none with one at r, where row holds all such of its own."""
+    found = {}
+    # Such coins without one of them don't come further: each such way is one of the row and a coin more.
+    for lying in row:
+        for place in range(len(lying)):
+            more = with_one_more(lying, place)
+            if more not in found and is_short(pairs, r, row, more):
+                found[more] = True
+    return found
+
+
+def most_short_of(n, g, r):
+    """All ways with the most coins that lead to none with one at r."""
+    pairs = ways_to_move(n, g)
+    row = {tuple([0] * n): True}
+    following = next_short_row(pairs, r, row)
+    # One comes from each place to r, so with coins enough one comes there, and the rows come to an end.
+    while len(following) > 0:
+        row = following
+        following = next_short_row(pairs, r, row)
+    return list(row)
+
+
+def most_short(n, g):
+    """All ways with the most coins for which there is a place so that they lead to none with one there."""
+    found = []
+    for r in range(n):
+        found.extend(most_short_of(n, g, r))
+    most = max([sum(lying) for lying in found])
+    return [lying for lying in found if sum(lying) == most]
+
+
+def refusal(n, g, c):
+    """The number of the refusal, or 0 if there is none."""
+    if n < 1 or n > MOST_PLACES:
+        return OUT_OF_RANGE
+    if not is_graph(n, g) or has_too_many(c):
+        return NOT_A_GRAPH_OR_TOO_MANY
+    return 0
+
+
 def pc_most(n, r, g, c):
     """The most coins at r of all that the coins c lead to."""
-    if n < 1 or n > MOST_PLACES or r < 0 or r >= n:
+    if r < 0 or r >= n:
         return [OUT_OF_RANGE]
-    if not is_graph(n, g) or has_too_many(c):
-        return [NOT_A_GRAPH_OR_TOO_MANY]
+    refused = refusal(n, g, c)
+    if refused != 0:
+        return [refused]
     return [max([lying[r] for lying in all_led_to(n, g, c)])]
+
+
+def pc_number(n, g):
+    """The least k so that k coins, however they lie, lead for each place to some with one there at least."""
+    refused = refusal(n, g, [])
+    if refused != 0:
+        return [refused]
+    # One more than can lie short of a place: fewer can lie so too, and more can't.
+    return [sum(most_short(n, g)[0]) + 1]
