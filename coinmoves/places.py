@@ -168,3 +168,12 @@ def pc_number(n, g):
         return [refused]
     # One more than can lie short of a place: fewer can lie so too, and more can't.
     return [sum(most_short(n, g)[0]) + 1]
+
+
+def pc_short(n, g):
+    """0, then the first of all ways in which one coin fewer than pc_number's can lie short of some place."""
+    refused = refusal(n, g, [])
+    if refused != 0:
+        return [refused]
+    # Tuples come in the order that is asked: by the first place where they differ, the fewer first.
+    return [0] + list(min(most_short(n, g)))

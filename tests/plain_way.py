@@ -107,6 +107,13 @@ def plain_number(n, edges):
                 if all(len(places_of(tuple(coins))) == n for coins in ways_to_lie(n, k)))
 
 
+def plain_shorts(n, edges, total):
+    """All ways, in their order, in which so many coins lie but don't come to each place."""
+    places_of = place_finder(edges)
+    ways = sorted(ways_to_lie(n, total))
+    return [coins for coins in ways if len(places_of(tuple(coins))) < n]
+
+
 def tree_most(edges, r, coins, came_from=None):
     """In a tree each place can send half of what it gathers on towards r, and nothing else helps."""
     total = coins[r]

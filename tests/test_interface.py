@@ -18,6 +18,7 @@ from plain_way import KITE_5, graph_of
 ARGUMENTS = {
     "pc_most": ["n", "r", "g", "c"],
     "pc_number": ["n", "g"],
+    "pc_short": ["n", "g"],
 }
 
 # Of each function some calls, and what they answer: among them each refusal, and the most that is asked of it.
@@ -36,6 +37,13 @@ CALLS = [
     ("pc_number", (6, [34, 5, 10, 20, 40, 17]), [8]),
     ("pc_number", (3, [2, 4, 2]), [-3]),
     ("pc_number", (7, []), [-2]),
+    ("pc_short", (1, [0]), [0, 0]),
+    ("pc_short", (3, [2, 5, 2]), [0, 0, 0, 3]),
+    ("pc_short", (3, [6, 5, 3]), [0, 0, 1, 1]),
+    ("pc_short", (5, [2, 5, 10, 20, 8]), [0, 0, 0, 0, 0, 15]),
+    ("pc_short", (6, [34, 5, 10, 20, 40, 17]), [0, 0, 0, 0, 0, 0, 7]),
+    ("pc_short", (3, [2, 4, 2]), [-3]),
+    ("pc_short", (7, []), [-2]),
 ]
 
 
@@ -103,9 +111,11 @@ class Interface(unittest.TestCase):
         c[0] = 7
         self.assertEqual(places.pc_most(5, 4, g, c), [0])
         self.assertEqual(places.pc_number(5, g), [8])
+        self.assertEqual(places.pc_short(5, g), [0, 0, 0, 0, 0, 7])
         g[0], g[4] = g[0] | 16, g[4] | 1
         self.assertEqual(places.pc_most(5, 4, g, c), [3])
         self.assertEqual(places.pc_number(5, g), [5])
+        self.assertEqual(places.pc_short(5, g), [0, 0, 0, 1, 0, 3])
 
     def test_an_answer_is_the_callers_own(self):
         for name, given, want in CALLS:

@@ -12,6 +12,7 @@ HIGH = 2147483647
 # Each call by the places and the graph alone.
 CALLS = {
     "pc_number": places.pc_number,
+    "pc_short": places.pc_short,
 }
 
 
