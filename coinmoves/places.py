@@ -30,14 +30,21 @@ def has_own_neighbour(n, g):
     return any([are_neighbours(g, i, i) for i in range(n)])
 
 
+def and_neighbours(n, g, come_to):
+    """The places of come_to, as bits, and all their neighbours."""
+    wider = come_to
+    for i in range(n):
+        if (come_to >> i) & 1 == 1:
+            wider = wider | g[i]
+    return wider
+
+
 def is_joined(n, g):
     """Whether one comes from place 0, and so from each place, to each."""
     come_to = 1
     # No way that visits a place once is longer than n - 1, so n rounds are enough.
     for round_number in range(n):
-        for i in range(n):
-            if (come_to >> i) & 1 == 1:
-                come_to = come_to | g[i]
+        come_to = and_neighbours(n, g, come_to)
     return come_to == (1 << n) - 1
 
 
@@ -142,6 +149,23 @@ def most_short(n, g):
     return [lying for lying in found if sum(lying) == most]
 
 
+def steps_from(n, g, start):
+    """Of each place, how many steps from neighbour to neighbour it is away from the start."""
+    steps = [0] * n
+    come_to = 1 << start
+    # Each round in which a place is not yet come to, it is one step further away.
+    for round_number in range(n):
+        steps = [steps[i] + 1 - ((come_to >> i) & 1) for i in range(n)]
+        come_to = and_neighbours(n, g, come_to)
+    return steps
+
+
+def enough_from(n, g, start):
+    """The fewest coins, all at the start, that lead to some with one at every place."""
+    # Each step on its way doubles what a coin costs at the start.
+    return sum([1 << steps for steps in steps_from(n, g, start)])
+
+
 def refusal(n, g, c):
     """The number of the refusal, or 0 if there is none."""
     if n < 1 or n > MOST_PLACES:
@@ -177,3 +201,12 @@ def pc_short(n, g):
         return [refused]
     # Tuples come in the order that is asked: by the first place where they differ, the fewer first.
     return [0] + list(min(most_short(n, g)))
+
+
+def pc_cover(n, g):
+    """The least k so that k coins, however they lie, lead to some with one at least at every place."""
+    refused = refusal(n, g, [])
+    if refused != 0:
+        return [refused]
+    # Sjostrand's theorem: where coins all at one place are enough, whatever the place, so are as many in any way.
+    return [max([enough_from(n, g, start) for start in range(n)])]

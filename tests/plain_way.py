@@ -38,6 +38,18 @@ ASKED_NEAR = (
      (6, NET_6), (6, PRISM_6), (6, TWO_SIDES_6)] + [(n, all_joined(n)) for n in (3, 4, 5, 6)])
 
 
+def path(n):
+    return [(i, i + 1) for i in range(n - 1)]
+
+
+def ring(n):
+    return path(n) + [(n - 1, 0)]
+
+
+def star(n):
+    return [(0, i) for i in range(1, n)]
+
+
 def graph_of(n, edges):
     g = [0] * n
     for i, j in edges:
@@ -114,6 +126,22 @@ def plain_shorts(n, edges, total):
     return [coins for coins in ways if len(places_of(tuple(coins))) < n]
 
 
+def cover_finder(edges):
+    """A function that tells of coins whether they lead to some with one at every place."""
+
+    @functools.cache
+    def covers(lying):
+        return min(lying) > 0 or any(covers(moved) for moved in plain_moves(edges, lying))
+
+    return covers
+
+
+def plain_cover(n, edges):
+    """The first number of coins that come to every place at once, in whatever way they lie."""
+    covers = cover_finder(edges)
+    return next(k for k in itertools.count() if all(covers(tuple(coins)) for coins in ways_to_lie(n, k)))
+
+
 def tree_most(edges, r, coins, came_from=None):
     """In a tree each place can send half of what it gathers on towards r, and nothing else helps."""
     total = coins[r]
@@ -142,14 +170,40 @@ def tree_number(n, edges):
     return max(in_vain(r) for r in range(n)) + 1
 
 
-def plain_away(n, edges):
-    """How many neighbours the farthest places are away from one another."""
+def tree_cover(edges, most=70):
+    """In a tree: one more than the most coins, up to so many at a place, that leave some place without one.
+
+    Seen from place 0, each place sends half of what it has too many towards it, or takes twice what it lacks.
+    """
+    def most_by_surplus(place, came_from):
+        found = {k - 1: k for k in range(most + 1)}
+        for other in [sum(edge) - place for edge in edges if place in edge]:
+            if other != came_from:
+                wider = {}
+                for surplus, coins in most_by_surplus(other, place).items():
+                    change = surplus // 2 if surplus > 0 else 2 * surplus
+                    for before, coins_before in found.items():
+                        together = before + change
+                        wider[together] = max(wider.get(together, 0), coins + coins_before)
+                found = wider
+        return found
+
+    return 1 + max(coins for surplus, coins in most_by_surplus(0, None).items() if surplus < 0)
+
+
+def plain_steps(n, edges):
+    """A table of how many neighbours each place is away from each."""
     away = [[0 if i == j else n for j in range(n)] for i in range(n)]
     for i, j in edges:
         away[i][j] = away[j][i] = 1
     for k, i, j in itertools.product(range(n), repeat=3):
         away[i][j] = min(away[i][j], away[i][k] + away[k][j])
-    return max(max(row) for row in away)
+    return away
+
+
+def plain_away(n, edges):
+    """How many neighbours the farthest places are away from one another."""
+    return max(max(row) for row in plain_steps(n, edges))
 
 
 def plain_is_graph(n, g):

@@ -19,6 +19,7 @@ ARGUMENTS = {
     "pc_most": ["n", "r", "g", "c"],
     "pc_number": ["n", "g"],
     "pc_short": ["n", "g"],
+    "pc_cover": ["n", "g"],
 }
 
 # Of each function some calls, and what they answer: among them each refusal, and the most that is asked of it.
@@ -44,6 +45,13 @@ CALLS = [
     ("pc_short", (6, [34, 5, 10, 20, 40, 17]), [0, 0, 0, 0, 0, 0, 7]),
     ("pc_short", (3, [2, 4, 2]), [-3]),
     ("pc_short", (7, []), [-2]),
+    ("pc_cover", (1, [0]), [1]),
+    ("pc_cover", (3, [2, 5, 2]), [7]),
+    ("pc_cover", (3, [6, 5, 3]), [5]),
+    ("pc_cover", (6, [2, 5, 10, 20, 40, 16]), [63]),
+    ("pc_cover", (6, [34, 5, 10, 20, 40, 17]), [21]),
+    ("pc_cover", (3, [2, 4, 2]), [-3]),
+    ("pc_cover", (7, []), [-2]),
 ]
 
 
@@ -112,10 +120,12 @@ class Interface(unittest.TestCase):
         self.assertEqual(places.pc_most(5, 4, g, c), [0])
         self.assertEqual(places.pc_number(5, g), [8])
         self.assertEqual(places.pc_short(5, g), [0, 0, 0, 0, 0, 7])
+        self.assertEqual(places.pc_cover(5, g), [19])
         g[0], g[4] = g[0] | 16, g[4] | 1
         self.assertEqual(places.pc_most(5, 4, g, c), [3])
         self.assertEqual(places.pc_number(5, g), [5])
         self.assertEqual(places.pc_short(5, g), [0, 0, 0, 1, 0, 3])
+        self.assertEqual(places.pc_cover(5, g), [13])
 
     def test_an_answer_is_the_callers_own(self):
         for name, given, want in CALLS:

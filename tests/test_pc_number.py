@@ -6,19 +6,7 @@ import unittest
 from coinmoves.places import pc_number
 from plain_way import (
     ASKED_NEAR, BROOM_6, BULL_5, FORK_6, KITE_5, LADDER_6, NET_6, OTHERS, PRISM_6, RING_6, TREES,
-    all_graphs, all_joined, graph_of, plain_away, plain_number, spread, tree_number)
-
-
-def path(n):
-    return [(i, i + 1) for i in range(n - 1)]
-
-
-def ring(n):
-    return path(n) + [(n - 1, 0)]
-
-
-def star(n):
-    return [(0, i) for i in range(1, n)]
+    all_graphs, all_joined, graph_of, path, plain_away, plain_number, ring, spread, star, tree_number)
 
 
 class OrdinaryInputs(unittest.TestCase):

@@ -13,6 +13,7 @@ HIGH = 2147483647
 CALLS = {
     "pc_number": places.pc_number,
     "pc_short": places.pc_short,
+    "pc_cover": places.pc_cover,
 }
 
 
