@@ -99,6 +99,18 @@ def all_led_to(n, g, c):
     return found
 
 
+def lead_to_one_everywhere(n, g, c):
+    """Whether the coins c lead to some with one at least at every place."""
+    pairs = ways_to_move(n, g)
+    row = [tuple(c)]
+    # The coins of a row are as many in each way: fewer than there are places are not enough, and won't be more.
+    while len(row) > 0 and sum(row[0]) >= n:
+        if any([min(lying) > 0 for lying in row]):
+            return True
+        row = after_one_move(pairs, row)
+    return False
+
+
 def with_one_more(lying, place):
     """The coins with one more at the place."""
     more = list(lying)
@@ -210,3 +222,11 @@ def pc_cover(n, g):
         return [refused]
     # Sjostrand's theorem: where coins all at one place are enough, whatever the place, so are as many in any way.
     return [max([enough_from(n, g, start) for start in range(n)])]
+
+
+def pc_covers(n, g, c):
+    """1 if the coins c lead to some with one at least at every place, else 0."""
+    refused = refusal(n, g, c)
+    if refused != 0:
+        return [refused]
+    return [1 if lead_to_one_everywhere(n, g, c) else 0]

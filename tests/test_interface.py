@@ -20,6 +20,7 @@ ARGUMENTS = {
     "pc_number": ["n", "g"],
     "pc_short": ["n", "g"],
     "pc_cover": ["n", "g"],
+    "pc_covers": ["n", "g", "c"],
 }
 
 # Of each function some calls, and what they answer: among them each refusal, and the most that is asked of it.
@@ -52,6 +53,15 @@ CALLS = [
     ("pc_cover", (6, [34, 5, 10, 20, 40, 17]), [21]),
     ("pc_cover", (3, [2, 4, 2]), [-3]),
     ("pc_cover", (7, []), [-2]),
+    ("pc_covers", (1, [0], [0]), [0]),
+    ("pc_covers", (1, [0], [1]), [1]),
+    ("pc_covers", (3, [2, 5, 2], [7, 0, 0]), [1]),
+    ("pc_covers", (3, [2, 5, 2], [6, 0, 0]), [0]),
+    ("pc_covers", (6, [62, 61, 59, 55, 47, 31], [16, 0, 0, 0, 0, 0]), [1]),
+    ("pc_covers", (6, [34, 5, 10, 20, 40, 17], [16, 0, 0, 0, 0, 0]), [0]),
+    ("pc_covers", (2, [2, 1], [0, 101]), [-3]),
+    ("pc_covers", (3, [2, 4, 2], [7, 0, 0]), [-3]),
+    ("pc_covers", (7, [], []), [-2]),
 ]
 
 
@@ -116,6 +126,7 @@ class Interface(unittest.TestCase):
     def test_same_lists_with_other_numbers_in_them(self):
         g, c = graph_of(5, KITE_5), [8, 0, 0, 0, 0]
         self.assertEqual(places.pc_most(5, 4, g, c), [1])
+        self.assertEqual(places.pc_covers(5, g, c), [0])
         c[0] = 7
         self.assertEqual(places.pc_most(5, 4, g, c), [0])
         self.assertEqual(places.pc_number(5, g), [8])
@@ -126,6 +137,8 @@ class Interface(unittest.TestCase):
         self.assertEqual(places.pc_number(5, g), [5])
         self.assertEqual(places.pc_short(5, g), [0, 0, 0, 1, 0, 3])
         self.assertEqual(places.pc_cover(5, g), [13])
+        c[0] = 11
+        self.assertEqual(places.pc_covers(5, g, c), [1])
 
     def test_an_answer_is_the_callers_own(self):
         for name, given, want in CALLS:

@@ -9,11 +9,12 @@ from plain_way import all_joined, graph_of, plain_is_graph
 LOW = -2147483648
 HIGH = 2147483647
 
-# Each call by the places and the graph alone.
+# Each call by the places and the graph alone; where it takes coins, one at each place, as many numbers as g has.
 CALLS = {
     "pc_number": places.pc_number,
     "pc_short": places.pc_short,
     "pc_cover": places.pc_cover,
+    "pc_covers": lambda n, g: places.pc_covers(n, g, [1] * len(g)),
 }
 
 
