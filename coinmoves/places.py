@@ -30,7 +30,7 @@ def has_own_neighbour(n, g):
     return any([are_neighbours(g, i, i) for i in range(n)])
 
 
-def and_neighbours(n, g, come_to):
+def with_neighbours(n, g, come_to):
     """The places of come_to, as bits, and all their neighbours."""
     wider = come_to
     for i in range(n):
@@ -44,7 +44,7 @@ def is_joined(n, g):
     come_to = 1
     # No way that visits a place once is longer than n - 1, so n rounds are enough.
     for round_number in range(n):
-        come_to = and_neighbours(n, g, come_to)
+        come_to = with_neighbours(n, g, come_to)
     return come_to == (1 << n) - 1
 
 
@@ -161,6 +161,21 @@ def most_short(n, g):
     return [lying for lying in found if sum(lying) == most]
 
 
+def all_with_one_more(row):
+    """All ways, each once, that come of one of the row by a coin more at some place."""
+    found = {}
+    for lying in row:
+        for place in range(len(lying)):
+            found[with_one_more(lying, place)] = True
+    return list(found)
+
+
+def come_to_each(n, g, c):
+    """Whether the coins c lead, for each place by itself, to some with one there at least."""
+    led_to = all_led_to(n, g, c)
+    return all([max([lying[r] for lying in led_to]) > 0 for r in range(n)])
+
+
 def steps_from(n, g, start):
     """Of each place, how many steps from neighbour to neighbour it is away from the start."""
     steps = [0] * n
@@ -168,7 +183,7 @@ def steps_from(n, g, start):
     # Each round in which a place is not yet come to, it is one step further away.
     for round_number in range(n):
         steps = [steps[i] + 1 - ((come_to >> i) & 1) for i in range(n)]
-        come_to = and_neighbours(n, g, come_to)
+        come_to = with_neighbours(n, g, come_to)
     return steps
 
 
@@ -230,3 +245,15 @@ def pc_covers(n, g, c):
     if refused != 0:
         return [refused]
     return [1 if lead_to_one_everywhere(n, g, c) else 0]
+
+
+def pc_well(n, g):
+    """The least k so that k coins can be laid that lead, for each place, to some with one there at least."""
+    refused = refusal(n, g, [])
+    if refused != 0:
+        return [refused]
+    row = [tuple([0] * n)]
+    # One at each place is a way that does it, so the rows come to an end.
+    while not any([come_to_each(n, g, lying) for lying in row]):
+        row = all_with_one_more(row)
+    return [sum(row[0])]

@@ -126,6 +126,13 @@ def plain_shorts(n, edges, total):
     return [coins for coins in ways if len(places_of(tuple(coins))) < n]
 
 
+def plain_well(n, edges):
+    """The first number of coins that come to each place in some way to lie."""
+    places_of = place_finder(edges)
+    return next(k for k in itertools.count()
+                if any(len(places_of(tuple(coins))) == n for coins in ways_to_lie(n, k)))
+
+
 def cover_finder(edges):
     """A function that tells of coins whether they lead to some with one at every place."""
 

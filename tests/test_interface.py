@@ -21,6 +21,7 @@ ARGUMENTS = {
     "pc_short": ["n", "g"],
     "pc_cover": ["n", "g"],
     "pc_covers": ["n", "g", "c"],
+    "pc_well": ["n", "g"],
 }
 
 # Of each function some calls, and what they answer: among them each refusal, and the most that is asked of it.
@@ -62,6 +63,13 @@ CALLS = [
     ("pc_covers", (2, [2, 1], [0, 101]), [-3]),
     ("pc_covers", (3, [2, 4, 2], [7, 0, 0]), [-3]),
     ("pc_covers", (7, [], []), [-2]),
+    ("pc_well", (1, [0]), [1]),
+    ("pc_well", (3, [2, 5, 2]), [2]),
+    ("pc_well", (5, [2, 5, 10, 20, 8]), [4]),
+    ("pc_well", (6, [34, 5, 10, 20, 40, 17]), [4]),
+    ("pc_well", (6, [62, 61, 59, 55, 47, 31]), [2]),
+    ("pc_well", (3, [2, 4, 2]), [-3]),
+    ("pc_well", (7, []), [-2]),
 ]
 
 
@@ -84,8 +92,14 @@ class Interface(unittest.TestCase):
         with self.subTest(name=name, given=given):
             self.assertEqual(answer_of(name, given), want)
 
-    def test_each_function_has_calls_here(self):
-        self.assertEqual({name for name, given, want in CALLS}, set(ARGUMENTS))
+    def test_each_function_is_there_and_has_calls_here(self):
+        six = ["pc_most", "pc_number", "pc_short", "pc_cover", "pc_covers", "pc_well"]
+        self.assertEqual([name for name in vars(places) if name.startswith("pc_")], six)
+        self.assertEqual(list(ARGUMENTS), six)
+        for name in six:
+            self.assertEqual(getattr(places, name).__module__, "coinmoves.places")
+            wants = [want for called, given, want in CALLS if called == name]
+            self.assertTrue([-2] in wants and [-3] in wants and len(wants) > 4, name)
 
     def test_names_of_arguments(self):
         for name, arguments in ARGUMENTS.items():
@@ -132,11 +146,13 @@ class Interface(unittest.TestCase):
         self.assertEqual(places.pc_number(5, g), [8])
         self.assertEqual(places.pc_short(5, g), [0, 0, 0, 0, 0, 7])
         self.assertEqual(places.pc_cover(5, g), [19])
+        self.assertEqual(places.pc_well(5, g), [3])
         g[0], g[4] = g[0] | 16, g[4] | 1
         self.assertEqual(places.pc_most(5, 4, g, c), [3])
         self.assertEqual(places.pc_number(5, g), [5])
         self.assertEqual(places.pc_short(5, g), [0, 0, 0, 1, 0, 3])
         self.assertEqual(places.pc_cover(5, g), [13])
+        self.assertEqual(places.pc_well(5, g), [3])
         c[0] = 11
         self.assertEqual(places.pc_covers(5, g, c), [1])
 

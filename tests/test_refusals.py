@@ -1,4 +1,4 @@
-"""The row ahead of the points, for the calls that are handed places and a graph: -2 before -3."""
+"""The row ahead of the points, for each of the calls: -2 before -3."""
 
 import itertools
 import unittest
@@ -9,12 +9,14 @@ from plain_way import all_joined, graph_of, plain_is_graph
 LOW = -2147483648
 HIGH = 2147483647
 
-# Each call by the places and the graph alone; where it takes coins, one at each place, as many numbers as g has.
+# Each call by the places and the graph alone; where it takes coins, one at each place.
 CALLS = {
+    "pc_most": lambda n, g: places.pc_most(n, 0, g, [1] * len(g)),
     "pc_number": places.pc_number,
     "pc_short": places.pc_short,
     "pc_cover": places.pc_cover,
     "pc_covers": lambda n, g: places.pc_covers(n, g, [1] * len(g)),
+    "pc_well": places.pc_well,
 }
 
 
